@@ -1,0 +1,42 @@
+package mem
+
+import (
+	"bytes"
+	"testing"
+)
+
+func TestPerms(t *testing.T) {
+	if Execute != 1 || Write != 2 || Read != 4 {
+		t.Errorf("execute %d, write %d, read %d; want 1, 2, 4", Execute, Write, Read)
+	}
+}
+
+func TestNumber(t *testing.T) {
+	for _, x := range []struct {
+		b    []byte
+		want uint64
+	}{
+		{nil, 0},
+		{[]byte{7}, 7},
+		{[]byte{0x34, 0x12}, 0x1234},
+		{[]byte{1, 0, 0, 0x80}, 0x80000001},
+		{[]byte{1, 2, 3, 4, 5, 6, 7, 0xff}, 0xff07060504030201},
+	} {
+		if got := Number(x.b); got != x.want {
+			t.Errorf("Number(% x) = %#x, want %#x", x.b, got, x.want)
+		}
+	}
+}
+
+func TestPutWords(t *testing.T) {
+	b := bytes.Repeat([]byte{0xee}, 18)
+	PutWords(b, 0x0102030405060708, 0xff00000000000009)
+	want := []byte{8, 7, 6, 5, 4, 3, 2, 1, 9, 0, 0, 0, 0, 0, 0, 0xff, 0xee, 0xee}
+	if !bytes.Equal(b, want) {
+		t.Errorf("PutWords wrote % x, want % x", b, want)
+	}
+	PutWords(b[:0])
+	if !bytes.Equal(b, want) {
+		t.Errorf("PutWords of no numbers wrote % x", b)
+	}
+}

@@ -1,0 +1,50 @@
+// Package tinyos: a small kernel over a simulated machine: see DOC.md.
+package tinyos
+
+import (
+	"tinyos/api"
+	"tinyos/code"
+	"tinyos/exe"
+)
+
+// Encode writes an instruction (P3).
+func Encode(i api.Instr) ([4]byte, error) { return code.Encode(i) }
+
+// Decode reads one (P3).
+func Decode(b [4]byte) (api.Instr, error) { return code.Decode(b) }
+
+// Load reads an executable (P4).
+func Load(b []byte) (api.Plan, error) { return exe.Load(b) }
+
+// Stack makes the pages of a stack (P5).
+func Stack(args []string) ([]api.Page, uint64, error) { return exe.Stack(args) }
+
+// Kernel is processes, files and a console.
+type Kernel struct{}
+
+// Boot begins (P6).
+func Boot(l api.Limits, files []api.File) (*Kernel, error) { return nil, nil }
+
+// Do makes a call for a process (P7).
+func (k *Kernel) Do(pid int, c api.Call) (api.Result, error) { return api.Result{}, nil }
+
+// Step has a process do one instruction (P18).
+func (k *Kernel) Step(pid int) error { return nil }
+
+// Tick tells that time goes on (P13).
+func (k *Kernel) Tick() {}
+
+// Type gives the console what is typed (P10).
+func (k *Kernel) Type(b []byte) {}
+
+// Console tells what was written to the console (P10).
+func (k *Kernel) Console() []byte { return nil }
+
+// Procs tells all processes (P7).
+func (k *Kernel) Procs() []api.Proc { return nil }
+
+// Files tells all files (P8).
+func (k *Kernel) Files() []api.File { return nil }
+
+// Used tells how much of the limits is used (P16).
+func (k *Kernel) Used() api.Limits { return api.Limits{} }
