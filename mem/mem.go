@@ -1,4 +1,4 @@
-// Package mem: what may be done with a page, the ends of an address space, and numbers as they stand in memory.
+// Package mem: address spaces, what may be done with a page, and numbers as they stand in memory.
 package mem
 
 import "tinyos/api"

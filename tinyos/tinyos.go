@@ -5,6 +5,7 @@ import (
 	"tinyos/api"
 	"tinyos/code"
 	"tinyos/exe"
+	"tinyos/kernel"
 )
 
 // Encode writes an instruction (P3).
@@ -20,16 +21,22 @@ func Load(b []byte) (api.Plan, error) { return exe.Load(b) }
 func Stack(args []string) ([]api.Page, uint64, error) { return exe.Stack(args) }
 
 // Kernel is processes, files and a console.
-type Kernel struct{}
+type Kernel struct{ core *kernel.Kernel }
 
 // Boot begins (P6).
-func Boot(l api.Limits, files []api.File) (*Kernel, error) { return nil, nil }
+func Boot(l api.Limits, files []api.File) (*Kernel, error) {
+	core, err := kernel.Boot(l, files)
+	if err != nil {
+		return nil, err
+	}
+	return &Kernel{core}, nil
+}
 
 // Do makes a call for a process (P7).
 func (k *Kernel) Do(pid int, c api.Call) (api.Result, error) { return api.Result{}, nil }
 
 // Step has a process do one instruction (P18).
-func (k *Kernel) Step(pid int) error { return nil }
+func (k *Kernel) Step(pid int) error { return k.core.Step(pid) }
 
 // Tick tells that time goes on (P13).
 func (k *Kernel) Tick() {}
@@ -41,10 +48,10 @@ func (k *Kernel) Type(b []byte) {}
 func (k *Kernel) Console() []byte { return nil }
 
 // Procs tells all processes (P7).
-func (k *Kernel) Procs() []api.Proc { return nil }
+func (k *Kernel) Procs() []api.Proc { return k.core.Procs() }
 
 // Files tells all files (P8).
-func (k *Kernel) Files() []api.File { return nil }
+func (k *Kernel) Files() []api.File { return k.core.Files() }
 
 // Used tells how much of the limits is used (P16).
-func (k *Kernel) Used() api.Limits { return api.Limits{} }
+func (k *Kernel) Used() api.Limits { return k.core.Used() }

@@ -1,0 +1,80 @@
+package mem
+
+import "tinyos/api"
+
+// page is one of an address space. One with which nothing may be done is not there.
+type page struct {
+	perm  api.Perm
+	bytes [api.PageSize]byte
+}
+
+// Space is an address space: pages by their numbers. A copy of it shares nothing with it.
+type Space struct{ pages [api.MaxPages]page }
+
+// NewSpace is an address space of these pages.
+func NewSpace(pages ...api.Page) Space {
+	var s Space
+	for _, p := range pages {
+		s.pages[p.Number] = page{p.Perm, p.Bytes}
+	}
+	return s
+}
+
+// Pages tells the pages that are there, by their numbers.
+func (s *Space) Pages() []api.Page {
+	pages := make([]api.Page, 0, s.Count())
+	for i := range s.pages {
+		if p := &s.pages[i]; p.perm != 0 {
+			pages = append(pages, api.Page{Number: i, Perm: p.perm, Bytes: p.bytes})
+		}
+	}
+	return pages
+}
+
+// Count tells how many pages are there.
+func (s *Space) Count() int {
+	count := 0
+	for i := range s.pages {
+		if s.pages[i].perm != 0 {
+			count++
+		}
+	}
+	return count
+}
+
+// Get fills b with the bytes from addr on; false, if not all of them are in pages with which this may be done.
+func (s *Space) Get(b []byte, addr uint64, perm api.Perm) bool {
+	if !s.may(perm, addr, len(b)) {
+		return false
+	}
+	for i := range b {
+		b[i] = *s.at(addr + uint64(i))
+	}
+	return true
+}
+
+// Set writes b from addr on; false, with nothing written, if not all of its bytes come into pages that may be written.
+func (s *Space) Set(addr uint64, b []byte) bool {
+	if !s.may(Write, addr, len(b)) {
+		return false
+	}
+	for i := range b {
+		*s.at(addr + uint64(i)) = b[i]
+	}
+	return true
+}
+
+// may looks at each byte from the lowest on, so it meets the end of the address space ahead of an address that wraps round.
+func (s *Space) may(perm api.Perm, addr uint64, count int) bool {
+	for i := range count {
+		at := addr + uint64(i)
+		if at >= SpaceEnd || s.pages[at/api.PageSize].perm&perm == 0 {
+			return false
+		}
+	}
+	return true
+}
+
+func (s *Space) at(addr uint64) *byte {
+	return &s.pages[addr/api.PageSize].bytes[addr%api.PageSize]
+}
