@@ -15,15 +15,23 @@ type Node struct {
 	dir      bool
 	bytes    []byte           // of a file
 	children map[string]*Node // of a directory, by their names
+	unlinked bool             // it is not in the tree any more
+	objects  int              // how many there are of a file: they keep it, unlinked or not
 }
 
 func newDir() *Node { return &Node{dir: true, children: map[string]*Node{}} }
 
-// IsDir tells whether it is a directory.
-func (n *Node) IsDir() bool { return n.dir }
-
 // Bytes are those of a file. They are to be read only.
 func (n *Node) Bytes() []byte { return n.bytes }
+
+// Place is where a path leads to: a name in a directory. There may be nothing yet.
+type Place struct {
+	dir  *Node
+	name string
+}
+
+// Node is what is there, or nil.
+func (p Place) Node() *Node { return p.dir.children[p.name] }
 
 // Tree is files and directories under a root, with limits.
 type Tree struct {
@@ -41,94 +49,133 @@ func New(maxInodes, maxBytes int) (*Tree, error) {
 	return t, nil
 }
 
-// follow goes along a path to the directory that its last name is in, or would be in.
-func (t *Tree) follow(path string) (*Node, string, error) {
+// Follow goes along a path: all of its names but the last one must be directories.
+func (t *Tree) Follow(path string) (Place, error) {
 	parts, err := names(path)
 	if err != nil {
-		return nil, "", err
+		return Place{}, err
 	}
 	last := len(parts) - 1
 	dir := t.above
 	for _, name := range parts[:last] {
 		next := dir.children[name]
 		if next == nil {
-			return nil, "", api.ErrMissing
+			return Place{}, api.ErrMissing
 		}
 		if !next.dir {
-			return nil, "", api.ErrDir
+			return Place{}, api.ErrDir
 		}
 		dir = next
 	}
-	return dir, parts[last], nil
+	return Place{dir, parts[last]}, nil
 }
 
-// add puts a node under a name that is not there; ErrFull, if no inode is free.
-func (t *Tree) add(dir *Node, name string, n *Node) error {
-	if t.inodes >= t.maxInodes {
-		return api.ErrFull
-	}
+func (t *Tree) isFull() bool { return t.inodes >= t.maxInodes }
+
+// put asks for a free inode, and for a place where nothing is.
+func (t *Tree) put(at Place, n *Node) {
 	t.inodes++
-	dir.children[name] = n
-	return nil
+	at.dir.children[strings.Clone(at.name)] = n // a name is a piece of a path that was handed in, which is not to be kept
 }
 
 // Mkdir makes an empty directory.
 func (t *Tree) Mkdir(path string) error {
-	dir, name, err := t.follow(path)
+	at, err := t.Follow(path)
 	if err != nil {
 		return err
 	}
-	if dir.children[name] != nil {
+	if at.Node() != nil {
 		return api.ErrExists
 	}
-	return t.add(dir, name, newDir())
+	if t.isFull() {
+		return api.ErrFull
+	}
+	t.put(at, newDir())
+	return nil
 }
 
-// Find is what the path is of; ErrMissing, if there is nothing.
-func (t *Tree) Find(path string) (*Node, error) {
-	dir, name, err := t.follow(path)
+// Unlink takes a file or an empty directory out of the tree.
+func (t *Tree) Unlink(path string) error {
+	at, err := t.Follow(path)
 	if err != nil {
-		return nil, err
+		return err
 	}
-	n := dir.children[name]
+	n := at.Node()
 	if n == nil {
-		return nil, api.ErrMissing
+		return api.ErrMissing
 	}
-	return n, nil
+	if at.dir == t.above || len(n.children) > 0 {
+		return api.ErrBusy
+	}
+	delete(at.dir.children, at.name)
+	n.unlinked = true
+	t.tidy(n)
+	return nil
 }
 
-// Make is the file of the path: an empty one is made, if there is nothing.
-func (t *Tree) Make(path string) (*Node, error) {
-	dir, name, err := t.follow(path)
-	if err != nil {
-		return nil, err
+// MayOpen tells what stands against a file at a place: it is missing (or, if it may be made, no inode is free), or it is a directory.
+func (t *Tree) MayOpen(at Place, create bool) error {
+	n := at.Node()
+	switch {
+	case n == nil && !create:
+		return api.ErrMissing
+	case n == nil && t.isFull():
+		return api.ErrFull
+	case n != nil && n.dir:
+		return api.ErrDir
 	}
-	n := dir.children[name]
-	if n == nil {
-		n = &Node{}
-		if err := t.add(dir, name, n); err != nil {
-			return nil, err
-		}
-	}
-	if n.dir {
-		return nil, api.ErrDir
-	}
-	return n, nil
+	return nil
 }
 
-// Write writes b at the beginning of a file; ErrFull, if the files would have too many bytes.
-func (t *Tree) Write(file *Node, b []byte) error {
-	more := max(0, len(b)-len(file.bytes))
+// File is the file at a place where one may be opened: an empty one is made, if there is nothing.
+func (t *Tree) File(at Place) *Node {
+	if n := at.Node(); n != nil {
+		return n
+	}
+	n := &Node{}
+	t.put(at, n)
+	return n
+}
+
+// Write writes b into a file from an offset on, and what is between its end and the offset becomes 0; ErrFull, if the files would have too many bytes.
+func (t *Tree) Write(file *Node, offset int, b []byte) error {
+	if len(b) == 0 {
+		return nil
+	}
+	more := max(0, offset+len(b)-len(file.bytes))
 	if more > t.maxBytes-t.bytes {
 		return api.ErrFull
 	}
 	t.bytes += more
-	copy(file.bytes, b)
-	file.bytes = append(file.bytes, b[len(b)-more:]...)
+	file.bytes = append(file.bytes, make([]byte, more)...)
+	copy(file.bytes[offset:], b)
 	return nil
 }
 
-// Inodes tells how many files and directories there are, the root too.
+// Empty takes all bytes out of a file.
+func (t *Tree) Empty(file *Node) {
+	t.bytes -= len(file.bytes)
+	file.bytes = nil
+}
+
+// Hold tells that there is one more object of a file.
+func (t *Tree) Hold(file *Node) { file.objects++ }
+
+// Release tells that there is one fewer.
+func (t *Tree) Release(file *Node) {
+	file.objects--
+	t.tidy(file)
+}
+
+// tidy gives back what a node used, if nothing leads to it any more.
+func (t *Tree) tidy(n *Node) {
+	if n.unlinked && n.objects == 0 {
+		t.inodes--
+		t.bytes -= len(n.bytes)
+	}
+}
+
+// Inodes tells how many files and directories there are, the root and files that are kept by their objects too.
 func (t *Tree) Inodes() int { return t.inodes }
 
 // Bytes tells how many bytes all files have.

@@ -1,4 +1,4 @@
-// Package kernel: processes over a tree of files.
+// Package kernel: processes over a tree of files and a console, and the calls that they make.
 package kernel
 
 import (
@@ -7,6 +7,7 @@ import (
 
 	"tinyos/api"
 	"tinyos/fs"
+	"tinyos/stream"
 )
 
 const (
@@ -14,11 +15,12 @@ const (
 	first    = 1      // the process that Boot makes
 )
 
-// Kernel is processes and files.
+// Kernel is processes, files and a console.
 type Kernel struct {
-	limits api.Limits
-	tree   *fs.Tree
-	procs  map[int]*process // by their numbers
+	limits  api.Limits
+	tree    *fs.Tree
+	console *stream.Console
+	procs   map[int]*process // by their numbers
 }
 
 // Boot makes the files, and process 1, which executes /init.
@@ -35,8 +37,9 @@ func Boot(l api.Limits, files []api.File) (*Kernel, error) {
 			return nil, err
 		}
 	}
-	p := newProcess(first, 0)
-	k := &Kernel{limits: l, tree: tree, procs: map[int]*process{first: p}}
+	console := &stream.Console{}
+	p := newProcess(first, 0, console)
+	k := &Kernel{limits: l, tree: tree, console: console, procs: map[int]*process{first: p}}
 	if err := k.exec(p, "/init", []string{"init"}); err != nil {
 		return nil, err
 	}
@@ -57,18 +60,34 @@ func makeFile(tree *fs.Tree, f api.File) error {
 	if f.Dir {
 		return tree.Mkdir(f.Path)
 	}
-	n, err := tree.Make(f.Path)
+	at, err := tree.Follow(f.Path)
 	if err != nil {
 		return err
 	}
-	return tree.Write(n, f.Bytes)
+	if err := tree.MayOpen(at, true); err != nil {
+		return err
+	}
+	return tree.Write(tree.File(at), 0, f.Bytes)
+}
+
+// Do makes a call for a process.
+func (k *Kernel) Do(pid int, c api.Call) (api.Result, error) {
+	p, err := k.ready(pid)
+	if err != nil {
+		return api.Result{}, wrap(pid, err)
+	}
+	r, err := k.call(p, c)
+	if err != nil {
+		return api.Result{}, wrap(pid, err)
+	}
+	return r, nil
 }
 
 // Step has a process do one instruction.
 func (k *Kernel) Step(pid int) error {
 	p, err := k.ready(pid)
 	if err != nil {
-		return err
+		return wrap(pid, err)
 	}
 	if status := p.Step(); status != 0 {
 		k.end(p, status)
@@ -80,13 +99,22 @@ func (k *Kernel) Step(pid int) error {
 func (k *Kernel) ready(pid int) (*process, error) {
 	p := k.procs[pid]
 	if p == nil {
-		return nil, &api.CallError{PID: pid, Err: api.ErrPid}
+		return nil, api.ErrPid
 	}
 	if p.state != api.Ready {
-		return nil, &api.CallError{PID: pid, Err: api.ErrState}
+		return nil, api.ErrState
 	}
 	return p, nil
 }
+
+// wrap tells whose error it is.
+func wrap(pid int, err error) error { return &api.CallError{PID: pid, Err: api.Tell(err)} }
+
+// Type gives the console what is typed.
+func (k *Kernel) Type(b []byte) { k.console.Type(b) }
+
+// Console tells what was written to the console since it was asked last.
+func (k *Kernel) Console() []byte { return k.console.Tell() }
 
 // Procs tells all processes, by their numbers.
 func (k *Kernel) Procs() []api.Proc {
@@ -103,10 +131,11 @@ func (k *Kernel) Files() []api.File { return k.tree.Files() }
 // Used tells how much of the limits is used.
 func (k *Kernel) Used() api.Limits {
 	return api.Limits{
-		Procs:  len(k.procs),
-		Frames: k.frames(),
-		Inodes: k.tree.Inodes(),
-		Bytes:  k.tree.Bytes(),
+		Procs:   len(k.procs),
+		Frames:  k.frames(),
+		Objects: len(k.objects()),
+		Inodes:  k.tree.Inodes(),
+		Bytes:   k.tree.Bytes(),
 	}
 }
 
@@ -117,4 +146,17 @@ func (k *Kernel) frames() int {
 		count += p.Space.Count()
 	}
 	return count
+}
+
+// objects tells of each object how many descriptors are of it. The console is none.
+func (k *Kernel) objects() map[stream.Stream]int {
+	counts := map[stream.Stream]int{}
+	for _, p := range k.procs {
+		for _, s := range p.fds {
+			if s != nil && s != k.console {
+				counts[s]++
+			}
+		}
+	}
+	return counts
 }

@@ -5,6 +5,7 @@ import (
 	"tinyos/cpu"
 	"tinyos/exe"
 	"tinyos/mem"
+	"tinyos/stream"
 )
 
 const stackPointer = 15 // the register that has it
@@ -14,29 +15,37 @@ type process struct {
 	cpu.CPU
 	pid, parent int
 	state       api.State
-	status      int                    // of a zombie
-	fds         [api.MaxFds]api.FdKind // 0, where a descriptor is free
+	status      int                       // of a zombie
+	fds         [api.MaxFds]stream.Stream // nil, where a descriptor is free
 }
 
 // newProcess has the console, and no pages yet.
-func newProcess(pid, parent int) *process {
+func newProcess(pid, parent int, console *stream.Console) *process {
 	p := &process{pid: pid, parent: parent}
 	for fd := range 3 {
-		p.fds[fd] = api.ConsoleFd
+		p.fds[fd] = console
 	}
 	return p
 }
 
+// at is what a descriptor is of; nil, if it is free, or no number of a descriptor.
+func (p *process) at(fd int) stream.Stream {
+	if !isWithin(fd, 0, api.MaxFds-1) {
+		return nil
+	}
+	return p.fds[fd]
+}
+
 // exec has a process go on with an executable; with an error it is as it was.
 func (k *Kernel) exec(p *process, path string, args []string) error {
-	file, err := k.tree.Find(path)
+	at, err := k.tree.Follow(path)
 	if err != nil {
 		return err
 	}
-	if file.IsDir() {
-		return api.ErrDir
+	if err := k.tree.MayOpen(at, false); err != nil {
+		return err
 	}
-	plan, err := exe.Load(file.Bytes())
+	plan, err := exe.Load(at.Node().Bytes())
 	if err != nil {
 		return err
 	}
@@ -58,7 +67,9 @@ func (k *Kernel) end(p *process, status int) {
 	p.state = api.Zombie
 	p.status = status
 	p.Space = mem.Space{}
-	p.fds = [api.MaxFds]api.FdKind{}
+	for fd := range p.fds {
+		k.free(p, fd)
+	}
 	for _, child := range k.procs {
 		if child.parent == p.pid {
 			child.parent = first
@@ -81,10 +92,26 @@ func (p *process) tell() api.Proc {
 
 func (p *process) tellFds() []api.Fd {
 	var fds []api.Fd
-	for i, kind := range p.fds {
-		if kind != 0 {
-			fds = append(fds, api.Fd{Number: i, Kind: kind})
+	for number, s := range p.fds {
+		if s != nil {
+			fds = append(fds, tellFd(number, s))
 		}
 	}
 	return fds
+}
+
+func tellFd(number int, s stream.Stream) api.Fd {
+	fd := api.Fd{Number: number}
+	switch s := s.(type) {
+	case *stream.File:
+		fd.Kind = api.FileFd
+		fd.Offset = s.Offset()
+	case *stream.ReadEnd:
+		fd.Kind = api.ReadFd
+	case *stream.WriteEnd:
+		fd.Kind = api.WriteFd
+	case *stream.Console:
+		fd.Kind = api.ConsoleFd
+	}
+	return fd
 }

@@ -239,34 +239,12 @@ func TestBootInit(t *testing.T) {
 
 func TestBootPaths(t *testing.T) {
 	init := api.File{Path: "/init", Bytes: loop(t)}
-	deep := strings.Repeat("/a", 29) // 58 bytes
-	var dirs []api.File
-	for i := 2; i <= len(deep); i += 2 {
-		dirs = append(dirs, dir(deep[:i]))
-	}
-	base := append([]api.File{init, dir("/d"), dir("/d/e"), file("/f", "text")}, dirs...)
-	for _, x := range []struct {
-		path      string
-		dir, file api.Errno
-	}{
-		{"/x", 0, 0}, {"/d/x", 0, 0}, {"/d/e/x", 0, 0}, {"/...", 0, 0}, {"/.x", 0, 0}, {"/x.", 0, 0}, {"/..x", 0, 0}, {"/d/...", 0, 0},
-		{"/12345678901234", 0, 0}, {"/d/12345678901234", 0, 0}, {"/\xff\xfe\x01", 0, 0}, {"/ ", 0, 0}, {"/\\", 0, 0}, {"/ä", 0, 0}, {"/ääääääa", 0, 0}, {"/äääääää", 0, 0},
-		{deep + "/x", 0, 0}, {deep[:56] + "/xyz", 0, 0},
-
-		{"", 8, 8}, {"x", 8, 8}, {"d/x", 8, 8}, {".", 8, 8}, {" /x", 8, 8}, {"\x00", 8, 8}, {"//", 8, 8}, {"//x", 8, 8}, {"/x/", 8, 8}, {"/d/", 8, 8}, {"/d//x", 8, 8}, {"/d/e/", 8, 8}, {"///", 8, 8},
-		{"/.", 8, 8}, {"/..", 8, 8}, {"/./x", 8, 8}, {"/../x", 8, 8}, {"/d/.", 8, 8}, {"/d/..", 8, 8}, {"/d/../x", 8, 8}, {"/d/./x", 8, 8},
-		{"/\x00", 8, 8}, {"/x\x00", 8, 8}, {"/x\x00y", 8, 8}, {"/d\x00/x", 8, 8}, {"/d/x\x00", 8, 8},
-		{"/123456789012345", 8, 8}, {"/d/123456789012345", 8, 8}, {"/123456789012345/x", 8, 8}, {"/äääääääa", 8, 8}, {"/" + strings.Repeat("x", 59), 8, 8}, {strings.Repeat("x", 1<<16), 8, 8},
-		{deep + "/xy", 8, 8}, {deep + "/x/y", 8, 8}, {deep[:56] + "/wxyz", 8, 8}, {deep + "/a/a/a", 8, 8},
-
-		{"/", 10, 11}, {"/d", 10, 11}, {"/d/e", 10, 11}, {deep, 10, 11}, {"/f", 10, 0}, {"/init", 10, 0},
-		{"/x/y", 9, 9}, {"/d/x/y", 9, 9}, {"/x/y/z", 9, 9}, {"/D/x", 9, 9}, {"/d/x/..", 8, 8}, {"/x/y/", 8, 8},
-		{"/f/x", 11, 11}, {"/init/x", 11, 11}, {"/f/x/y", 11, 11}, {"/f/x/", 8, 8}, {"/f/..", 8, 8},
-	} {
+	base := append([]api.File{init}, pathFiles()...)
+	for _, x := range pathCases() {
 		for _, f := range []api.File{{Path: x.path, Dir: true}, {Path: x.path}, {Path: x.path, Dir: true, Bytes: []byte("of no matter")}} {
-			want := x.file
+			want := x.create
 			if f.Dir {
-				want = x.dir
+				want = x.mkdir
 			}
 			files := append(slices.Clone(base), f)
 			if want != api.OK {

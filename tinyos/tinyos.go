@@ -33,7 +33,7 @@ func Boot(l api.Limits, files []api.File) (*Kernel, error) {
 }
 
 // Do makes a call for a process (P7).
-func (k *Kernel) Do(pid int, c api.Call) (api.Result, error) { return api.Result{}, nil }
+func (k *Kernel) Do(pid int, c api.Call) (api.Result, error) { return k.core.Do(pid, c) }
 
 // Step has a process do one instruction (P18).
 func (k *Kernel) Step(pid int) error { return k.core.Step(pid) }
@@ -42,10 +42,10 @@ func (k *Kernel) Step(pid int) error { return k.core.Step(pid) }
 func (k *Kernel) Tick() {}
 
 // Type gives the console what is typed (P10).
-func (k *Kernel) Type(b []byte) {}
+func (k *Kernel) Type(b []byte) { k.core.Type(b) }
 
 // Console tells what was written to the console (P10).
-func (k *Kernel) Console() []byte { return nil }
+func (k *Kernel) Console() []byte { return k.core.Console() }
 
 // Procs tells all processes (P7).
 func (k *Kernel) Procs() []api.Proc { return k.core.Procs() }

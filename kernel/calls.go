@@ -1,0 +1,34 @@
+package kernel
+
+import "tinyos/api"
+
+// work makes a call for a process. With an error it has changed nothing.
+type work func(k *Kernel, p *process, c api.Call) (api.Result, error)
+
+// works lists what makes each call, by its kind. Those that are not listed are not built yet.
+func works() [api.Restore + 1]work {
+	return [api.Restore + 1]work{
+		api.Getpid: (*Kernel).getpid,
+		api.Open:   (*Kernel).open,
+		api.Close:  (*Kernel).close,
+		api.Read:   (*Kernel).read,
+		api.Write:  (*Kernel).write,
+		api.Seek:   (*Kernel).seek,
+		api.Dup:    (*Kernel).dup,
+		api.Pipe:   (*Kernel).pipe,
+		api.Unlink: (*Kernel).unlink,
+		api.Mkdir:  (*Kernel).mkdir,
+	}
+}
+
+func (k *Kernel) call(p *process, c api.Call) (api.Result, error) {
+	list := works()
+	if !isWithin(int(c.Kind), 0, len(list)-1) || list[c.Kind] == nil {
+		return api.Result{}, api.ErrCall
+	}
+	return list[c.Kind](k, p, c)
+}
+
+func (k *Kernel) getpid(p *process, _ api.Call) (api.Result, error) {
+	return api.Result{N: p.pid}, nil
+}
