@@ -8,6 +8,12 @@ type work func(k *Kernel, p *process, c api.Call) (api.Result, error)
 // works lists what makes each call, by its kind. Those that are not listed are not built yet.
 func works() [api.Restore + 1]work {
 	return [api.Restore + 1]work{
+		api.Fork:   (*Kernel).fork,
+		api.Exec:   (*Kernel).exec,
+		api.Exit:   (*Kernel).exit,
+		api.Wait:   (*Kernel).wait,
+		api.Kill:   (*Kernel).kill,
+		api.Sleep:  (*Kernel).sleep,
 		api.Getpid: (*Kernel).getpid,
 		api.Open:   (*Kernel).open,
 		api.Close:  (*Kernel).close,
@@ -18,6 +24,9 @@ func works() [api.Restore + 1]work {
 		api.Pipe:   (*Kernel).pipe,
 		api.Unlink: (*Kernel).unlink,
 		api.Mkdir:  (*Kernel).mkdir,
+		api.Brk:    (*Kernel).brk,
+		api.Peek:   (*Kernel).peek,
+		api.Poke:   (*Kernel).poke,
 	}
 }
 
@@ -27,6 +36,15 @@ func (k *Kernel) call(p *process, c api.Call) (api.Result, error) {
 		return api.Result{}, api.ErrCall
 	}
 	return list[c.Kind](k, p, c)
+}
+
+// leastFree is the least number, from a first one on, at which there is nothing.
+func leastFree[T comparable](from int, at func(int) T) int {
+	var nothing T
+	for at(from) != nothing {
+		from++
+	}
+	return from
 }
 
 func (k *Kernel) getpid(p *process, _ api.Call) (api.Result, error) {

@@ -11,15 +11,6 @@ const (
 	toEmpty             // the file's bytes are gone
 )
 
-// leastFree is the least number, from a first one on, at which there is nothing.
-func leastFree[T comparable](from int, at func(int) T) int {
-	var nothing T
-	for at(from) != nothing {
-		from++
-	}
-	return from
-}
-
 // hasObjects tells whether so many objects are free.
 func (k *Kernel) hasObjects(count int) bool { return count <= k.limits.Objects-len(k.objects()) }
 

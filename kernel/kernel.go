@@ -20,6 +20,7 @@ type Kernel struct {
 	limits  api.Limits
 	tree    *fs.Tree
 	console *stream.Console
+	clock   clock
 	procs   map[int]*process // by their numbers
 }
 
@@ -40,7 +41,7 @@ func Boot(l api.Limits, files []api.File) (*Kernel, error) {
 	console := &stream.Console{}
 	p := newProcess(first, 0, console)
 	k := &Kernel{limits: l, tree: tree, console: console, procs: map[int]*process{first: p}}
-	if err := k.exec(p, "/init", []string{"init"}); err != nil {
+	if err := k.execute(p, "/init", []string{"init"}); err != nil {
 		return nil, err
 	}
 	return k, nil
@@ -110,6 +111,9 @@ func (k *Kernel) ready(pid int) (*process, error) {
 // wrap tells whose error it is.
 func wrap(pid int, err error) error { return &api.CallError{PID: pid, Err: api.Tell(err)} }
 
+// Tick tells that time goes on.
+func (k *Kernel) Tick() { k.clock.tick() }
+
 // Type gives the console what is typed.
 func (k *Kernel) Type(b []byte) { k.console.Type(b) }
 
@@ -119,10 +123,19 @@ func (k *Kernel) Console() []byte { return k.console.Tell() }
 // Procs tells all processes, by their numbers.
 func (k *Kernel) Procs() []api.Proc {
 	procs := make([]api.Proc, 0, len(k.procs))
-	for _, pid := range slices.Sorted(maps.Keys(k.procs)) {
-		procs = append(procs, k.procs[pid].tell())
+	for _, p := range k.all() {
+		procs = append(procs, k.tell(p))
 	}
 	return procs
+}
+
+// all are the processes, by their numbers.
+func (k *Kernel) all() []*process {
+	list := make([]*process, 0, len(k.procs))
+	for _, pid := range slices.Sorted(maps.Keys(k.procs)) {
+		list = append(list, k.procs[pid])
+	}
+	return list
 }
 
 // Files tells all files and directories but the root, by the bytes of their paths.
@@ -147,6 +160,9 @@ func (k *Kernel) frames() int {
 	}
 	return count
 }
+
+// freeFrames tells how many more pages there may be.
+func (k *Kernel) freeFrames() int { return k.limits.Frames - k.frames() }
 
 // objects tells of each object how many descriptors are of it. The console is none.
 func (k *Kernel) objects() map[stream.Stream]int {

@@ -3,12 +3,8 @@ package kernel
 import (
 	"tinyos/api"
 	"tinyos/cpu"
-	"tinyos/exe"
-	"tinyos/mem"
 	"tinyos/stream"
 )
-
-const stackPointer = 15 // the register that has it
 
 // process is a CPU of its own, and what the kernel knows of it.
 type process struct {
@@ -16,6 +12,7 @@ type process struct {
 	pid, parent int
 	state       api.State
 	status      int                       // of a zombie
+	wakes       int                       // by which tick, of one that sleeps
 	fds         [api.MaxFds]stream.Stream // nil, where a descriptor is free
 }
 
@@ -36,53 +33,13 @@ func (p *process) at(fd int) stream.Stream {
 	return p.fds[fd]
 }
 
-// exec has a process go on with an executable; with an error it is as it was.
-func (k *Kernel) exec(p *process, path string, args []string) error {
-	at, err := k.tree.Follow(path)
-	if err != nil {
-		return err
-	}
-	if err := k.tree.MayOpen(at, false); err != nil {
-		return err
-	}
-	plan, err := exe.Load(at.Node().Bytes())
-	if err != nil {
-		return err
-	}
-	stack, sp, err := exe.Stack(args)
-	if err != nil {
-		return err
-	}
-	pages := append(plan.Pages, stack...)
-	if others := k.frames() - p.Space.Count(); len(pages) > k.limits.Frames-others {
-		return api.ErrMemory
-	}
-	p.CPU = cpu.CPU{PC: plan.Entry, Space: mem.NewSpace(pages...)}
-	p.Regs[stackPointer] = sp
-	return nil
-}
-
-// end makes a process a zombie.
-func (k *Kernel) end(p *process, status int) {
-	p.state = api.Zombie
-	p.status = status
-	p.Space = mem.Space{}
-	for fd := range p.fds {
-		k.free(p, fd)
-	}
-	for _, child := range k.procs {
-		if child.parent == p.pid {
-			child.parent = first
-		}
-	}
-}
-
-func (p *process) tell() api.Proc {
+func (k *Kernel) tell(p *process) api.Proc {
 	return api.Proc{
 		PID:    p.pid,
 		Parent: p.parent,
 		State:  p.state,
 		Status: p.status,
+		Left:   k.clock.left(p),
 		PC:     p.PC,
 		Regs:   p.Regs,
 		Pages:  p.Space.Pages(),

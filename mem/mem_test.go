@@ -3,6 +3,8 @@ package mem
 import (
 	"bytes"
 	"testing"
+
+	"tinyos/api"
 )
 
 func TestPerms(t *testing.T) {
@@ -38,5 +40,23 @@ func TestPutWords(t *testing.T) {
 	PutWords(b[:0])
 	if !bytes.Equal(b, want) {
 		t.Errorf("PutWords of no numbers wrote % x", b)
+	}
+}
+
+func TestBreak(t *testing.T) {
+	for _, x := range []struct {
+		numbers []int
+		want    int
+	}{
+		{nil, 0}, {[]int{0}, 1}, {[]int{3, 7}, 8}, {[]int{253}, 254}, {[]int{254, 255}, 0}, {[]int{1, 254}, 2},
+	} {
+		var pages []api.Page
+		for _, n := range x.numbers {
+			pages = append(pages, api.Page{Number: n, Perm: Execute})
+		}
+		s := NewSpace(pages...)
+		if got := s.Break(); got != x.want {
+			t.Errorf("pages %d: the break is %d, want %d", x.numbers, got, x.want)
+		}
 	}
 }

@@ -42,6 +42,22 @@ func (s *Space) Count() int {
 	return count
 }
 
+// Break is the number of the page behind the last one below the stack.
+func (s *Space) Break() int {
+	at := api.StackPage
+	for at > 0 && s.pages[at-1].perm == 0 {
+		at--
+	}
+	return at
+}
+
+// Add makes so many pages, from a number on, which may be read and written and are 0.
+func (s *Space) Add(number, count int) {
+	for i := range count {
+		s.pages[number+i] = page{perm: Read | Write}
+	}
+}
+
 // Get fills b with the bytes from addr on; false, if not all of them are in pages with which this may be done.
 func (s *Space) Get(b []byte, addr uint64, perm api.Perm) bool {
 	if !s.may(perm, addr, len(b)) {

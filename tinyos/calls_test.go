@@ -13,6 +13,11 @@ import (
 	"tinyos/tinyos"
 )
 
+func fork() api.Call                   { return api.Call{Kind: api.Fork} }
+func exit(a int) api.Call              { return api.Call{Kind: api.Exit, A: a} }
+func wait() api.Call                   { return api.Call{Kind: api.Wait} }
+func kill(pid int) api.Call            { return api.Call{Kind: api.Kill, A: pid} }
+func sleep(ticks int) api.Call         { return api.Call{Kind: api.Sleep, A: ticks} }
 func getpid() api.Call                 { return api.Call{Kind: api.Getpid} }
 func open(path string, a int) api.Call { return api.Call{Kind: api.Open, S: path, A: a} }
 func shut(fd int) api.Call             { return api.Call{Kind: api.Close, A: fd} }
@@ -23,6 +28,13 @@ func dup(fd int) api.Call              { return api.Call{Kind: api.Dup, A: fd} }
 func pipe() api.Call                   { return api.Call{Kind: api.Pipe} }
 func unlink(path string) api.Call      { return api.Call{Kind: api.Unlink, S: path} }
 func mkdir(path string) api.Call       { return api.Call{Kind: api.Mkdir, S: path} }
+func brk(pages int) api.Call           { return api.Call{Kind: api.Brk, A: pages} }
+func peek(addr, count int) api.Call    { return api.Call{Kind: api.Peek, A: addr, B: count} }
+func poke(addr int, d string) api.Call { return api.Call{Kind: api.Poke, A: addr, D: []byte(d)} }
+
+func exec(path string, args ...string) api.Call {
+	return api.Call{Kind: api.Exec, S: path, L: args}
+}
 
 // answer is what a call answers, all of it.
 type answer struct {
@@ -39,6 +51,13 @@ func fails(err api.Errno) answer { return answer{err: err} }
 
 // line is a call of process 1, and what it is to answer.
 type line struct {
+	call api.Call
+	want answer
+}
+
+// turn is a call of any process, and what it is to answer.
+type turn struct {
+	pid  int
 	call api.Call
 	want answer
 }
@@ -88,25 +107,33 @@ func short(c api.Call) string {
 	if len(c.D) > 80 {
 		return fmt.Sprintf("%d with A %d and %d bytes", c.Kind, c.A, len(c.D))
 	}
-	return fmt.Sprintf("%d with A %d, B %d, S %.80q, D %q", c.Kind, c.A, c.B, c.S, c.D)
+	return fmt.Sprintf("%d with A %d, B %d, S %.80q, L %.40q, D %q", c.Kind, c.A, c.B, c.S, c.L, c.D)
 }
 
-// try makes a call that process 1 makes, and asks for no change where there is an error.
-func try(t *testing.T, promise string, k *tinyos.Kernel, x line) {
+// try makes a call, and asks for no change where there is an error.
+func try(t *testing.T, promise string, k *tinyos.Kernel, x turn) {
 	t.Helper()
 	before := tellAll(k)
-	got := ask(t, k, 1, x.call)
+	got := ask(t, k, x.pid, x.call)
 	if got != x.want {
-		t.Fatalf("%s: call %s: %+.100v, want %+.100v", promise, short(x.call), got, x.want)
+		t.Fatalf("%s: process %d, call %s: %+.100v, want %+.100v", promise, x.pid, short(x.call), got, x.want)
 	}
 	if x.want.err != api.OK && !tellAll(k).same(before) {
-		t.Fatalf("P1: call %s: something changed with the error %d", short(x.call), x.want.err)
+		t.Fatalf("P1: process %d, call %s: something changed with the error %d", x.pid, short(x.call), x.want.err)
 	}
 }
 
 func play(t *testing.T, promise string, k *tinyos.Kernel, lines ...line) {
 	t.Helper()
 	for _, x := range lines {
+		try(t, promise, k, turn{1, x.call, x.want})
+	}
+}
+
+// playAll is play, of several processes.
+func playAll(t *testing.T, promise string, k *tinyos.Kernel, turns ...turn) {
+	t.Helper()
+	for _, x := range turns {
 		try(t, promise, k, x)
 	}
 }
@@ -186,14 +213,14 @@ func TestDoOfNoProcess(t *testing.T) {
 func TestDoOfAZombie(t *testing.T) {
 	k := trapped(t, line{open("/a", 1), is(3)})
 	for _, c := range sundryCalls() {
-		try(t, "P7", k, line{c, fails(api.ErrState)})
+		play(t, "P7", k, line{c, fails(api.ErrState)})
 	}
 }
 
 func TestDoNoCall(t *testing.T) {
 	k := boot(t, loop(t))
 	for _, kind := range []api.Kind{0, -1, -7, api.Restore + 1, api.Restore + 2, 99, 1000, 1 << 32, 1<<32 + api.Getpid, math.MinInt, math.MaxInt} {
-		try(t, "P7", k, line{api.Call{Kind: kind, A: 1, B: 1, S: "/a", D: []byte("a")}, fails(api.ErrCall)})
+		play(t, "P7", k, line{api.Call{Kind: kind, A: 1, B: 1, S: "/a", D: []byte("a")}, fails(api.ErrCall)})
 	}
 	if got := k.Console(); len(got) != 0 {
 		t.Errorf("P7: no call wrote %q", got)
@@ -310,41 +337,69 @@ func TestDocumentsScript(t *testing.T) {
 	)
 }
 
+func TestDocumentsProcesses(t *testing.T) {
+	l := api.Limits{Procs: 6, Frames: 40, Objects: 10, Inodes: 12, Bytes: 30000}
+	playAll(t, "P12, P13", bootLimited(t, l, dir("/d"), file("/text", "some text")),
+		turn{1, wait(), fails(api.ErrChild)},
+		turn{1, fork(), is(2)},
+		turn{1, wait(), fails(api.ErrAgain)},
+		turn{2, exit(260), done()},
+		turn{1, wait(), both(2, 4)},
+		turn{1, kill(1), fails(api.ErrPid)},
+		turn{1, kill(9), fails(api.ErrPid)},
+		turn{1, sleep(-1), fails(api.ErrArgs)},
+	)
+}
+
 // TestAnyNumbers makes calls with numbers at all edges; only that they end, and what P1 and P2 say, is asked.
 func TestAnyNumbers(t *testing.T) {
 	numbers := []int{math.MinInt, math.MinInt + 1, -1 << 32, -4097, -65, -1, 0, 1, 2, 3, 4, 5, 6, 7, 8, 9, 63, 64, 65, 255, 256, 4095, 4096, 4097, 65535, 65536, 65537, 1 << 32, 1<<32 + 3, math.MaxInt - 1, math.MaxInt}
-	texts := []string{"", "/", "/a", "a", "/d/x", "//", "/\x00", "/\xff", strings.Repeat("/a", 30), strings.Repeat("x", 5000)}
-	for kind := api.Getpid; kind <= api.Mkdir; kind++ {
-		k := boot(t, loop(t), dir("/d"), file("/a", "some text"))
-		for _, a := range numbers {
+	texts := []string{"", "/", "/a", "/init", "a", "/d/x", "//", "/\x00", "/\xff", strings.Repeat("/a", 30), strings.Repeat("x", 5000)}
+	for kind := api.Fork; kind <= api.Restore; kind++ {
+		k := busy(t)
+		for i, a := range numbers {
+			for n, s := range texts {
+				l := slices.Repeat([]string{texts[(i+n)%len(texts)]}, n)
+				k = anyCall(t, k, api.Call{Kind: kind, A: a, S: s, L: l})
+			}
 			for _, b := range numbers {
-				for _, s := range texts {
-					anyCall(t, k, api.Call{Kind: kind, A: a, B: b, S: s})
-				}
+				k = anyCall(t, k, api.Call{Kind: kind, A: a, B: b, S: texts[i%len(texts)]})
 			}
 			for _, size := range []int{0, 1, 63, 64, 65, 4095, 4096, 4097, 100000} {
-				anyCall(t, k, api.Call{Kind: kind, A: a, D: make([]byte, size)})
+				k = anyCall(t, k, api.Call{Kind: kind, A: a, D: make([]byte, size)})
 			}
 		}
 	}
 }
 
-// anyCall asks that with an error nothing changed and every other result is 0, and that descriptors are there for the next one.
-func anyCall(t *testing.T, k *tinyos.Kernel, c api.Call) {
+// busy is a kernel with several processes.
+func busy(t *testing.T) *tinyos.Kernel {
 	t.Helper()
-	before := k.Used()
-	fds := k.Procs()[0].Fds
-	got := ask(t, k, 1, c)
+	k := boot(t, loop(t), dir("/d"), file("/a", "some text"))
+	playAll(t, "P12", k, turn{1, fork(), is(2)}, turn{2, fork(), is(3)}, turn{1, fork(), is(4)}, turn{4, exit(7), done()}, turn{1, fork(), is(5)}, turn{5, sleep(9), done()})
+	return k
+}
+
+// anyCall asks that with an error nothing changed and every other result is 0. It answers the kernel for the next one: another one, if processes changed.
+func anyCall(t *testing.T, k *tinyos.Kernel, c api.Call) *tinyos.Kernel {
+	t.Helper()
+	const pid = 2
+	before, used := k.Procs(), k.Used()
+	got := ask(t, k, pid, c)
 	if got.err == api.OK {
-		for _, fd := range []int{7, 6} {
-			ask(t, k, 1, shut(fd))
+		if c.Kind < api.Getpid || c.Kind > api.Mkdir {
+			return busy(t)
 		}
-		return
+		for _, fd := range []int{7, 6} {
+			ask(t, k, pid, shut(fd))
+		}
+		return k
 	}
 	if got != fails(got.err) {
 		t.Fatalf("P1: call %s: %+v beside an error", short(c), got)
 	}
-	if k.Used() != before || !slices.Equal(k.Procs()[0].Fds, fds) {
+	if k.Used() != used || !sameProcs(k.Procs(), before) {
 		t.Fatalf("P1: call %s: something changed with the error %d", short(c), got.err)
 	}
+	return k
 }

@@ -73,7 +73,7 @@ func TestPaths(t *testing.T) {
 			}
 			k := boot(t, loop(t), pathFiles()...)
 			before := k.Files()
-			try(t, "P8", k, line{y.call, y.want})
+			play(t, "P8", k, line{y.call, y.want})
 			if y.want.err == api.OK {
 				checkChange(t, y.call, before, k.Files())
 			}

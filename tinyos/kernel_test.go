@@ -148,6 +148,7 @@ func overwrite[E any](list []E, with E) {
 
 func TestAnswersAreFresh(t *testing.T) {
 	k := boot(t, loop(t), dir("/d"), file("/d/f", "some bytes"), file("/e", ""))
+	playAll(t, "P12", k, turn{1, fork(), is(2)}, turn{2, fork(), is(3)}, turn{2, sleep(1), done()})
 	want := tellAll(k)
 	scribble(k)
 	if got := tellAll(k); !got.same(want) {

@@ -8,6 +8,7 @@ import (
 	"testing"
 
 	"tinyos/api"
+	"tinyos/tinyos"
 )
 
 // inode is a file, or a directory, of the model.
@@ -25,47 +26,56 @@ type thing struct {
 	other  *thing  // the other end
 }
 
-// model is a kernel by the document's words, as far as the calls on files, pipes and the console go. It counts where the program keeps.
+// being is a process of the model: what is told of it, but for its descriptors.
+type being struct {
+	api.Proc
+	fds [8]*thing
+}
+
+// model is a kernel by the document's words. It counts where the program keeps.
 type model struct {
 	limits         api.Limits
 	names          map[string]*inode // by their paths, without the root
-	fds            [8]*thing
+	procs          []*being          // by their numbers
 	typed, written []byte
 }
 
-func newModel(l api.Limits, files []api.File) *model {
+// newModel has one process, as Boot made it.
+func newModel(l api.Limits, files []api.File, p api.Proc) *model {
 	m := &model{limits: l, names: map[string]*inode{}}
 	for _, f := range files {
 		m.names[f.Path] = &inode{f.Dir, slices.Clone(f.Bytes)}
 	}
 	console := &thing{kind: api.ConsoleFd}
-	m.fds = [8]*thing{console, console, console}
+	m.procs = []*being{{p, [8]*thing{console, console, console}}}
 	return m
 }
 
-// inodes are all that there are: those in the tree, and those that objects are of.
-func (m *model) inodes() map[*inode]bool {
-	all := map[*inode]bool{{dir: true}: true}
-	for _, n := range m.names {
-		all[n] = true
-	}
-	for _, o := range m.fds {
-		if o != nil && o.file != nil {
-			all[o.file] = true
-		}
-	}
-	return all
+// has tells whether a process has a descriptor of this.
+func (m *model) has(o *thing) bool {
+	return slices.ContainsFunc(m.procs, func(p *being) bool { return slices.Contains(p.fds[:], o) })
 }
 
 func (m *model) used() api.Limits {
+	u := api.Limits{Procs: len(m.procs)}
+	inodes := map[*inode]bool{{dir: true}: true}
+	for _, n := range m.names {
+		inodes[n] = true
+	}
 	objects := map[*thing]bool{}
-	for _, o := range m.fds {
-		if o != nil && o.kind != api.ConsoleFd {
-			objects[o] = true
+	for _, p := range m.procs {
+		u.Frames += len(p.Pages)
+		for _, o := range p.fds {
+			if o != nil && o.kind != api.ConsoleFd {
+				objects[o] = true
+			}
+			if o != nil && o.file != nil {
+				inodes[o.file] = true
+			}
 		}
 	}
-	u := api.Limits{Procs: 1, Frames: 3, Objects: len(objects)}
-	for n := range m.inodes() {
+	u.Objects = len(objects)
+	for n := range inodes {
 		u.Inodes++
 		u.Bytes += len(n.bytes)
 	}
@@ -132,9 +142,9 @@ func (m *model) unlink(path string) answer {
 }
 
 // free are the descriptors that are free, the least first.
-func (m *model) free() []int {
+func (p *being) free() []int {
 	var list []int
-	for i, o := range m.fds {
+	for i, o := range p.fds {
 		if o == nil {
 			list = append(list, i)
 		}
@@ -142,7 +152,7 @@ func (m *model) free() []int {
 	return list
 }
 
-func (m *model) open(path string, a int) answer {
+func (m *model) open(p *being, path string, a int) answer {
 	if e := m.lead(path); e != api.OK {
 		return fails(e)
 	}
@@ -162,7 +172,7 @@ func (m *model) open(path string, a int) answer {
 	if path == "/" || n.dir {
 		return fails(api.ErrDir)
 	}
-	if len(m.free()) == 0 {
+	if len(p.free()) == 0 {
 		return fails(api.ErrFds)
 	}
 	if m.used().Objects == m.limits.Objects {
@@ -172,13 +182,13 @@ func (m *model) open(path string, a int) answer {
 		n.bytes = nil
 	}
 	m.names[path] = n
-	fd := m.free()[0]
-	m.fds[fd] = &thing{kind: api.FileFd, file: n}
+	fd := p.free()[0]
+	p.fds[fd] = &thing{kind: api.FileFd, file: n}
 	return is(fd)
 }
 
-func (m *model) pipe() answer {
-	free := m.free()
+func (m *model) pipe(p *being) answer {
+	free := p.free()
 	if len(free) < 2 {
 		return fails(api.ErrFds)
 	}
@@ -188,39 +198,39 @@ func (m *model) pipe() answer {
 	b := []byte(nil)
 	r, w := &thing{kind: api.ReadFd, bytes: &b}, &thing{kind: api.WriteFd, bytes: &b}
 	r.other, w.other = w, r
-	m.fds[free[0]], m.fds[free[1]] = r, w
+	p.fds[free[0]], p.fds[free[1]] = r, w
 	return both(free[0], free[1])
 }
 
-func (m *model) at(fd int) *thing {
+func (p *being) at(fd int) *thing {
 	if fd < 0 || fd > 7 {
 		return nil
 	}
-	return m.fds[fd]
+	return p.fds[fd]
 }
 
-func (m *model) dup(fd int) answer {
-	if m.at(fd) == nil {
+func (p *being) dup(fd int) answer {
+	if p.at(fd) == nil {
 		return fails(api.ErrFd)
 	}
-	free := m.free()
+	free := p.free()
 	if len(free) == 0 {
 		return fails(api.ErrFds)
 	}
-	m.fds[free[0]] = m.fds[fd]
+	p.fds[free[0]] = p.fds[fd]
 	return is(free[0])
 }
 
-func (m *model) shut(fd int) answer {
-	if m.at(fd) == nil {
+func (p *being) shut(fd int) answer {
+	if p.at(fd) == nil {
 		return fails(api.ErrFd)
 	}
-	m.fds[fd] = nil
+	p.fds[fd] = nil
 	return done()
 }
 
-func (m *model) seek(fd, offset int) answer {
-	o := m.at(fd)
+func (p *being) seek(fd, offset int) answer {
+	o := p.at(fd)
 	if o == nil || o.kind != api.FileFd {
 		return fails(api.ErrFd)
 	}
@@ -231,8 +241,8 @@ func (m *model) seek(fd, offset int) answer {
 	return done()
 }
 
-func (m *model) read(fd, most int) answer {
-	o := m.at(fd)
+func (m *model) read(p *being, fd, most int) answer {
+	o := p.at(fd)
 	if o == nil || o.kind == api.WriteFd {
 		return fails(api.ErrFd)
 	}
@@ -251,7 +261,7 @@ func (m *model) read(fd, most int) answer {
 	again := true
 	if o.kind == api.ReadFd {
 		from = o.bytes
-		again = slices.Contains(m.fds[:], o.other)
+		again = m.has(o.other)
 	}
 	if len(*from) == 0 && most != 0 && again {
 		return fails(api.ErrAgain)
@@ -262,8 +272,8 @@ func (m *model) read(fd, most int) answer {
 	return gives(d)
 }
 
-func (m *model) write(fd int, d []byte) answer {
-	o := m.at(fd)
+func (m *model) write(p *being, fd int, d []byte) answer {
+	o := p.at(fd)
 	if o == nil || o.kind == api.ReadFd {
 		return fails(api.ErrFd)
 	}
@@ -277,7 +287,7 @@ func (m *model) write(fd int, d []byte) answer {
 	case api.FileFd:
 		return m.writeFile(o, d)
 	}
-	if !slices.Contains(m.fds[:], o.other) {
+	if !m.has(o.other) {
 		return fails(api.ErrPipe)
 	}
 	if len(*o.bytes) == 64 && len(d) > 0 {
@@ -305,41 +315,249 @@ func (m *model) writeFile(o *thing, d []byte) answer {
 	return is(len(d))
 }
 
-func (m *model) do(c api.Call) answer {
+// at is the process with this number, or nil.
+func (m *model) at(pid int) *being {
+	for _, p := range m.procs {
+		if p.PID == pid {
+			return p
+		}
+	}
+	return nil
+}
+
+func (m *model) fork(p *being) answer {
+	if len(m.procs) == m.limits.Procs {
+		return fails(api.ErrProcs)
+	}
+	if m.limits.Frames-m.used().Frames < len(p.Pages) {
+		return fails(api.ErrMemory)
+	}
+	pid := 1
+	for m.at(pid) != nil {
+		pid++
+	}
+	child := *p
+	child.PID, child.Parent, child.Pages = pid, p.PID, slices.Clone(p.Pages)
+	m.procs = append(m.procs, &child)
+	slices.SortFunc(m.procs, func(p, q *being) int { return p.PID - q.PID })
+	return is(pid)
+}
+
+func (m *model) end(p *being, status int) {
+	p.Proc = zombie(p.Proc, status)
+	p.fds = [8]*thing{}
+	for _, q := range m.procs {
+		if q.Parent == p.PID {
+			q.Parent = 1
+		}
+	}
+}
+
+func (m *model) exit(p *being, a int) answer {
+	if p.PID == 1 {
+		return fails(api.ErrPid)
+	}
+	m.end(p, (a%256+256)%256)
+	return done()
+}
+
+func (m *model) kill(pid int) answer {
+	p := m.at(pid)
+	if p == nil || p.State == api.Zombie || pid == 1 {
+		return fails(api.ErrPid)
+	}
+	m.end(p, 137)
+	return done()
+}
+
+func (m *model) wait(p *being) answer {
+	err := api.ErrChild
+	for i, q := range m.procs {
+		if q.Parent != p.PID {
+			continue
+		}
+		if q.State == api.Zombie {
+			m.procs = slices.Delete(m.procs, i, i+1)
+			return both(q.PID, q.Status)
+		}
+		err = api.ErrAgain
+	}
+	return fails(err)
+}
+
+func (p *being) sleep(count int) answer {
+	if count < 0 || count > 1<<20 {
+		return fails(api.ErrArgs)
+	}
+	if count > 0 {
+		p.State, p.Left = api.Sleeping, count
+	}
+	return done()
+}
+
+func (m *model) tick() {
+	for _, p := range m.procs {
+		if p.State != api.Sleeping {
+			continue
+		}
+		p.Left--
+		if p.Left == 0 {
+			p.State = api.Ready
+		}
+	}
+}
+
+func (m *model) exec(p *being, path string, args []string) answer {
+	if e := m.lead(path); e != api.OK {
+		return fails(e)
+	}
+	n := m.names[path]
+	if n == nil && path != "/" {
+		return fails(api.ErrMissing)
+	}
+	if path == "/" || n.dir {
+		return fails(api.ErrDir)
+	}
+	plan, err := tinyos.Load(n.bytes)
+	if err != nil {
+		return fails(api.Tell(err))
+	}
+	stack, sp, err := tinyos.Stack(args)
+	if err != nil {
+		return fails(api.Tell(err))
+	}
+	if m.used().Frames-len(p.Pages)+len(plan.Pages)+len(stack) > m.limits.Frames {
+		return fails(api.ErrMemory)
+	}
+	p.PC, p.Regs, p.Pages = plan.Entry, [16]uint64{15: sp}, append(plan.Pages, stack...)
+	return done()
+}
+
+func (m *model) brk(p *being, count int) answer {
+	if count < 0 || count > 64 {
+		return fails(api.ErrArgs)
+	}
+	below := len(p.Pages) - 2 // the last two are the stack
+	at := p.Pages[below-1].Number + 1
+	if m.used().Frames+count > m.limits.Frames || count > 0 && at+count-1 >= 254 {
+		return fails(api.ErrMemory)
+	}
+	for i := range count {
+		p.Pages = slices.Insert(p.Pages, below+i, api.Page{Number: at + i, Perm: 6})
+	}
+	return is(256 * at)
+}
+
+func (p *being) peek(addr, count int) answer {
+	if count < 0 || count > 4096 {
+		return fails(api.ErrArgs)
+	}
+	if !allows(p.Proc, uint64(addr), uint64(count), 4) {
+		return fails(api.ErrMemory)
+	}
+	d := make([]byte, count)
+	for i := range d {
+		d[i] = *byteAt(&p.Proc, uint64(addr+i))
+	}
+	return gives(string(d))
+}
+
+func (p *being) poke(addr int, d []byte) answer {
+	if len(d) > 4096 {
+		return fails(api.ErrArgs)
+	}
+	if !allows(p.Proc, uint64(addr), uint64(len(d)), 2) {
+		return fails(api.ErrMemory)
+	}
+	for i := range d {
+		*byteAt(&p.Proc, uint64(addr+i)) = d[i]
+	}
+	return is(len(d))
+}
+
+// ready is P7's errors of a number of a process.
+func (m *model) ready(pid int) api.Errno {
+	switch p := m.at(pid); {
+	case p == nil:
+		return api.ErrPid
+	case p.State != api.Ready:
+		return api.ErrState
+	}
+	return api.OK
+}
+
+func (m *model) step(pid int) api.Errno {
+	if e := m.ready(pid); e != api.OK {
+		return e
+	}
+	p := m.at(pid)
+	if status := follow(&p.Proc); status != 0 {
+		m.end(p, status)
+	}
+	return api.OK
+}
+
+func (m *model) do(pid int, c api.Call) answer {
+	if e := m.ready(pid); e != api.OK {
+		return fails(e)
+	}
+	p := m.at(pid)
 	switch c.Kind {
+	case api.Fork:
+		return m.fork(p)
+	case api.Exec:
+		return m.exec(p, c.S, c.L)
+	case api.Exit:
+		return m.exit(p, c.A)
+	case api.Wait:
+		return m.wait(p)
+	case api.Kill:
+		return m.kill(c.A)
+	case api.Sleep:
+		return p.sleep(c.A)
 	case api.Getpid:
-		return is(1)
+		return is(pid)
 	case api.Open:
-		return m.open(c.S, c.A)
+		return m.open(p, c.S, c.A)
 	case api.Close:
-		return m.shut(c.A)
+		return p.shut(c.A)
 	case api.Read:
-		return m.read(c.A, c.B)
+		return m.read(p, c.A, c.B)
 	case api.Write:
-		return m.write(c.A, c.D)
+		return m.write(p, c.A, c.D)
 	case api.Seek:
-		return m.seek(c.A, c.B)
+		return p.seek(c.A, c.B)
 	case api.Dup:
-		return m.dup(c.A)
+		return p.dup(c.A)
 	case api.Pipe:
-		return m.pipe()
+		return m.pipe(p)
 	case api.Unlink:
 		return m.unlink(c.S)
 	case api.Mkdir:
 		return m.mkdir(c.S)
+	case api.Brk:
+		return m.brk(p, c.A)
+	case api.Peek:
+		return p.peek(c.A, c.B)
+	case api.Poke:
+		return p.poke(c.A, c.D)
 	}
 	return fails(api.ErrCall)
 }
 
-// whole is what a kernel tells, whose process is as it was but for its descriptors.
-func (m *model) whole(p api.Proc) whole {
-	p.Fds = nil
-	for i, o := range m.fds {
-		if o != nil {
-			p.Fds = append(p.Fds, api.Fd{Number: i, Kind: o.kind, Offset: o.offset})
+// whole is what a kernel tells.
+func (m *model) whole() whole {
+	w := whole{used: m.used()}
+	for _, p := range m.procs {
+		told := p.Proc
+		told.Fds = nil
+		for i, o := range p.fds {
+			if o != nil {
+				told.Fds = append(told.Fds, api.Fd{Number: i, Kind: o.kind, Offset: o.offset})
+			}
 		}
+		w.procs = append(w.procs, told)
 	}
-	w := whole{procs: []api.Proc{p}, used: m.used()}
 	for path, n := range m.names {
 		w.files = append(w.files, api.File{Path: path, Dir: n.dir, Bytes: n.bytes})
 	}
@@ -378,37 +596,128 @@ func anyCallOf(r *rand.Rand) api.Call {
 	return c
 }
 
+// anyProcessCall is a call of those that make, end, or change processes.
+func anyProcessCall(r *rand.Rand) api.Call {
+	kinds := []api.Kind{api.Fork, api.Fork, api.Fork, api.Fork, api.Exec, api.Exec, api.Exit, api.Wait, api.Wait, api.Kill, api.Sleep, api.Sleep, api.Brk, api.Peek, api.Poke, api.Poke}
+	c := api.Call{Kind: anyOf(r, kinds...), A: r.IntN(8), B: r.IntN(12), S: "/x", L: []string{"y"}, D: bytes.Repeat([]byte{byte('A' + r.IntN(26))}, r.IntN(12))}
+	switch c.Kind {
+	case api.Exec:
+		c.S = anyOf(r, "/init", "/init", "/init", "/prog", "/prog", "/prog", "/prog", "/wrong", "/a", "/b", "/d", "/", "/a/b", "/d/b", "x")
+		c.L = slices.Repeat([]string{anyOf(r, "", "a", "some text", strings.Repeat("x", 30))}, r.IntN(9))
+		if r.IntN(8) == 0 {
+			c.L = append(c.L, anyOf(r, "\x00", strings.Repeat("x", 31)))
+		}
+	case api.Exit:
+		c.A = anyOf(r, 0, 1, 255, 256, 1000, -1, -300)
+	case api.Kill:
+		c.A = anyOf(r, 0, 1, 2, 2, 3, 3, 4, 5, 6, 7, 17, -1)
+	case api.Sleep:
+		c.A = anyOf(r, 0, 1, 1, 2, 3, 6)
+		if r.IntN(20) == 0 {
+			c.A = anyOf(r, 1<<20, 1<<20+1, -1)
+		}
+	case api.Brk:
+		c.A = anyOf(r, 0, 1, 1, 2, 3, 64, 65, -1)
+	case api.Peek, api.Poke:
+		c.A = anyOf(r, 0, 0x100, 0x200, 0x400, 0x480, 0x500, 0x600, 0x700, 0x9ff, 0xa00, 0xfe00, 0xff00, 0x10000, -1) + r.IntN(16) - 8
+		if r.IntN(8) == 0 {
+			c.B = anyOf(r, 0, 256, 257, 512, 4096, 4097, -1)
+			c.D = bytes.Repeat([]byte("z"), anyOf(r, 0, 256, 257, 512, 4096, 4097))
+		}
+	}
+	return c
+}
+
+// anyReady is a process that is ready; 1, if there is none.
+func (m *model) anyReady(r *rand.Rand) int {
+	list := []int{}
+	for _, p := range m.procs {
+		if p.State == api.Ready {
+			list = append(list, p.PID)
+		}
+	}
+	if len(list) == 0 {
+		return 1
+	}
+	return anyOf(r, list...)
+}
+
+// play makes one random thing happen, to the kernel and to the model.
+func (m *model) play(t *testing.T, r *rand.Rand, k *tinyos.Kernel) {
+	t.Helper()
+	pid := m.anyReady(r)
+	if r.IntN(20) == 0 {
+		pid = anyOf(r, 0, -1, 1, 2, 3, 4, 5, 17)
+	}
+	c := anyCallOf(r)
+	switch r.IntN(24) {
+	case 0:
+		text := strings.Repeat("t", r.IntN(9))
+		typeIn(t, k, text)
+		m.typed = append(m.typed, text...)
+		return
+	case 1:
+		checkConsole(t, k, string(m.written))
+		m.written = nil
+		return
+	case 2, 3, 4:
+		k.Tick()
+		m.tick()
+		return
+	case 5, 6:
+		want := m.step(pid)
+		if err := k.Step(pid); api.Tell(err) != want {
+			t.Fatalf("Step(%d): %v, want error %d", pid, err, want)
+		}
+		return
+	case 7, 8, 9, 10, 11, 12:
+		c = anyProcessCall(r)
+	}
+	want := m.do(pid, c)
+	if got := ask(t, k, pid, c); got != want {
+		t.Fatalf("process %d, call %s: %+.100v, want %+.100v", pid, short(c), got, want)
+	}
+}
+
 // TestAnyScript holds scripts against the model, with limits that are reached.
 func TestAnyScript(t *testing.T) {
-	init := loop(t)
+	var reached [3]bool
 	for seed := range uint64(400) {
 		r := rand.New(rand.NewPCG(7, seed))
-		files := []api.File{dir("/d"), file("/a", "some text"), {Path: "/init", Bytes: init}}
-		l := api.Limits{Procs: 1, Frames: 3, Objects: r.IntN(10), Inodes: 4 + r.IntN(8), Bytes: len(init) + 9 + r.IntN(120)}
+		files := []api.File{dir("/d"), file("/a", "some text"), {Path: "/init", Bytes: counter(t)}, {Path: "/prog", Bytes: prog(t)}, {Path: "/wrong", Bytes: wrong()}}
+		size := 0
+		for _, f := range files {
+			size += len(f.Bytes)
+		}
+		l := api.Limits{Procs: 1 + r.IntN(7), Frames: 3 + r.IntN(30), Objects: r.IntN(12), Inodes: 6 + r.IntN(8), Bytes: size + r.IntN(120)}
 		if r.IntN(3) == 0 {
 			l.Bytes = 100000
 		}
-		k := bootLimited(t, l, files[:2]...)
-		m := newModel(l, files)
-		p := k.Procs()[0]
-		for range 250 {
-			if r.IntN(20) == 0 {
-				text := strings.Repeat("t", r.IntN(9))
-				typeIn(t, k, text)
-				m.typed = append(m.typed, text...)
+		k, err := tinyos.Boot(l, files)
+		if err != nil {
+			t.Fatalf("P6: Boot: %v", err)
+		}
+		m := newModel(l, files, k.Procs()[0])
+		for i := range 250 {
+			m.play(t, r, k)
+			got, want := tellAll(k), m.whole()
+			if !got.same(want) {
+				t.Fatalf("seed %d, %d: used %+v, want %+v; processes\n%s\nwant\n%s", seed, i, got.used, want.used, briefAll(got.procs), briefAll(want.procs))
 			}
-			if r.IntN(20) == 0 {
-				checkConsole(t, k, string(m.written))
-				m.written = nil
-			}
-			c := anyCallOf(r)
-			want := m.do(c)
-			if got := ask(t, k, 1, c); got != want {
-				t.Fatalf("seed %d: call %s: %+.100v, want %+.100v", seed, short(c), got, want)
-			}
-			if got, want := tellAll(k), m.whole(p); !got.same(want) {
-				t.Fatalf("seed %d: after call %s descriptors %+v, used %+v, want %+v, %+v", seed, short(c), got.procs[0].Fds, got.used, want.procs[0].Fds, want.used)
+			for i, full := range []bool{got.used.Procs == l.Procs, got.used.Frames == l.Frames, got.used.Objects == l.Objects} {
+				reached[i] = reached[i] || full
 			}
 		}
 	}
+	if reached != [3]bool{true, true, true} {
+		t.Errorf("limits were not reached: %v", reached)
+	}
+}
+
+func briefAll(procs []api.Proc) string {
+	var list []string
+	for _, p := range procs {
+		list = append(list, brief(p))
+	}
+	return strings.Join(list, "\n")
 }

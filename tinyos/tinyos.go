@@ -39,7 +39,7 @@ func (k *Kernel) Do(pid int, c api.Call) (api.Result, error) { return k.core.Do(
 func (k *Kernel) Step(pid int) error { return k.core.Step(pid) }
 
 // Tick tells that time goes on (P13).
-func (k *Kernel) Tick() {}
+func (k *Kernel) Tick() { k.core.Tick() }
 
 // Type gives the console what is typed (P10).
 func (k *Kernel) Type(b []byte) { k.core.Type(b) }
