@@ -103,7 +103,7 @@ func readSegment(b []byte, at int) (segment, bool) {
 	inFile, inMemory := number(b, at+32, 8), number(b, at+40, 8)
 	switch {
 	case number(b, at, 4) != loadable,
-		!isPerm(perm),
+		!mem.IsPerm(perm),
 		inMemory == 0,
 		inFile > inMemory,
 		!within(offset, inFile, uint64(len(b))),
@@ -118,11 +118,6 @@ func readSegment(b []byte, at int) (segment, bool) {
 		first: int(addr / api.PageSize),
 		last:  int((addr + inMemory - 1) / api.PageSize),
 	}, true
-}
-
-func isPerm(perm uint64) bool {
-	const both = uint64(mem.Write | mem.Execute)
-	return perm >= 1 && perm <= 7 && perm&both != both
 }
 
 // within tells whether so many bytes from start on end at most at end. It adds nothing, for a sum could wrap round.

@@ -8,6 +8,12 @@ import (
 
 const slash = "/"
 
+// IsPath tells whether a text is a path.
+func IsPath(path string) bool {
+	_, err := names(path)
+	return err == nil
+}
+
 // names takes a path apart, from the root on, whose name is empty; ErrPath, if it is none.
 func names(path string) ([]string, error) {
 	if len(path) > api.MaxPath || !strings.HasPrefix(path, slash) {

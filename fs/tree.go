@@ -12,22 +12,25 @@ const rootName = ""
 
 // Node is a file, or a directory.
 type Node struct {
+	path     string // empty, if it is not in the tree any more
 	dir      bool
 	bytes    []byte           // of a file
 	children map[string]*Node // of a directory, by their names
-	unlinked bool             // it is not in the tree any more
 	objects  int              // how many there are of a file: they keep it, unlinked or not
 }
 
 func newDir() *Node { return &Node{dir: true, children: map[string]*Node{}} }
+
+// Path is by which it is in the tree; empty, if it was unlinked.
+func (n *Node) Path() string { return n.path }
 
 // Bytes are those of a file. They are to be read only.
 func (n *Node) Bytes() []byte { return n.bytes }
 
 // Place is where a path leads to: a name in a directory. There may be nothing yet.
 type Place struct {
-	dir  *Node
-	name string
+	dir        *Node
+	name, path string
 }
 
 // Node is what is there, or nil.
@@ -67,15 +70,33 @@ func (t *Tree) Follow(path string) (Place, error) {
 		}
 		dir = next
 	}
-	return Place{dir, parts[last]}, nil
+	return Place{dir, parts[last], path}, nil
 }
 
-func (t *Tree) isFull() bool { return t.inodes >= t.maxInodes }
+// Find is the file at a path; ErrMissing, if there is nothing; ErrDir, if it is a directory.
+func (t *Tree) Find(path string) (*Node, error) {
+	at, err := t.Follow(path)
+	if err != nil {
+		return nil, err
+	}
+	if err := t.MayOpen(at, false); err != nil {
+		return nil, err
+	}
+	return at.Node(), nil
+}
 
-// put asks for a free inode, and for a place where nothing is.
+// HasRoom tells whether so many inodes are free, and so many bytes.
+func (t *Tree) HasRoom(inodes, bytes int) bool {
+	return inodes <= t.maxInodes-t.inodes && bytes <= t.maxBytes-t.bytes
+}
+
+func (t *Tree) isFull() bool { return !t.HasRoom(1, 0) }
+
+// put asks for a free inode, and for a place where nothing is. The path was handed in, and is not to be kept.
 func (t *Tree) put(at Place, n *Node) {
 	t.inodes++
-	at.dir.children[strings.Clone(at.name)] = n // a name is a piece of a path that was handed in, which is not to be kept
+	n.path = strings.Clone(at.path)
+	at.dir.children[strings.Clone(at.name)] = n
 }
 
 // Mkdir makes an empty directory.
@@ -108,7 +129,7 @@ func (t *Tree) Unlink(path string) error {
 		return api.ErrBusy
 	}
 	delete(at.dir.children, at.name)
-	n.unlinked = true
+	n.path = ""
 	t.tidy(n)
 	return nil
 }
@@ -137,13 +158,20 @@ func (t *Tree) File(at Place) *Node {
 	return n
 }
 
+// Nameless makes a file with these bytes that is as if it had been unlinked: it asks for room, and to be held at once.
+func (t *Tree) Nameless(b []byte) *Node {
+	t.inodes++
+	t.bytes += len(b)
+	return &Node{bytes: slices.Clone(b)}
+}
+
 // Write writes b into a file from an offset on, and what is between its end and the offset becomes 0; ErrFull, if the files would have too many bytes.
 func (t *Tree) Write(file *Node, offset int, b []byte) error {
 	if len(b) == 0 {
 		return nil
 	}
 	more := max(0, offset+len(b)-len(file.bytes))
-	if more > t.maxBytes-t.bytes {
+	if !t.HasRoom(0, more) {
 		return api.ErrFull
 	}
 	t.bytes += more
@@ -169,7 +197,7 @@ func (t *Tree) Release(file *Node) {
 
 // tidy gives back what a node used, if nothing leads to it any more.
 func (t *Tree) tidy(n *Node) {
-	if n.unlinked && n.objects == 0 {
+	if n.path == "" && n.objects == 0 {
 		t.inodes--
 		t.bytes -= len(n.bytes)
 	}

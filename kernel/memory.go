@@ -18,14 +18,11 @@ func (k *Kernel) exec(p *process, c api.Call) (api.Result, error) {
 
 // execute has a process go on with an executable; with an error it is as it was.
 func (k *Kernel) execute(p *process, path string, args []string) error {
-	at, err := k.tree.Follow(path)
+	file, err := k.tree.Find(path)
 	if err != nil {
 		return err
 	}
-	if err := k.tree.MayOpen(at, false); err != nil {
-		return err
-	}
-	plan, err := exe.Load(at.Node().Bytes())
+	plan, err := exe.Load(file.Bytes())
 	if err != nil {
 		return err
 	}

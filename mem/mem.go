@@ -16,6 +16,12 @@ const (
 	SpaceEnd   = api.MaxPages * api.PageSize  // the address behind the last one
 )
 
+// IsPerm tells whether a number is what may be done with a page: something, but not both to write and to execute.
+func IsPerm(n uint64) bool {
+	const both = uint64(Write | Execute)
+	return n >= 1 && n <= uint64(Execute|Write|Read) && n&both != both
+}
+
 // Number is the number that all of b makes, the lowest byte first.
 func Number(b []byte) uint64 {
 	n := uint64(0)

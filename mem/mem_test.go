@@ -13,6 +13,17 @@ func TestPerms(t *testing.T) {
 	}
 }
 
+func TestIsPerm(t *testing.T) {
+	for n, want := range []bool{false, true, true, false, true, true, true, false, false, false} {
+		if got := IsPerm(uint64(n)); got != want {
+			t.Errorf("IsPerm(%d) = %v, want %v", n, got, want)
+		}
+	}
+	if IsPerm(1<<32 + 4) {
+		t.Error("IsPerm looks at some bits only")
+	}
+}
+
 func TestNumber(t *testing.T) {
 	for _, x := range []struct {
 		b    []byte

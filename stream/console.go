@@ -27,3 +27,6 @@ func (c *Console) Write(b []byte) (int, error) {
 
 // Close does nothing: the console is there without a descriptor too.
 func (c *Console) Close() {}
+
+// Bond is none, for the console is everybody's.
+func (c *Console) Bond() any { return nil }

@@ -20,6 +20,9 @@ func Open(tree *fs.Tree, node *fs.Node) *File {
 	return &File{tree: tree, node: node}
 }
 
+// Node is the file.
+func (f *File) Node() *fs.Node { return f.node }
+
 // Offset is where the next byte is read or written.
 func (f *File) Offset() int { return f.offset }
 
@@ -49,3 +52,11 @@ func (f *File) Write(b []byte) (int, error) {
 
 // Close gives the file back to its tree.
 func (f *File) Close() { f.tree.Release(f.node) }
+
+// Bond is the file, if it was unlinked: there is no other way to it than its objects. Else it is the object alone.
+func (f *File) Bond() any {
+	if f.node.Path() == "" {
+		return f.node
+	}
+	return f
+}

@@ -2,23 +2,30 @@ package stream
 
 import "tinyos/api"
 
-// pipe is what its two ends share.
-type pipe struct {
+// Pipe is what its two ends share.
+type Pipe struct {
 	queue
 	unread, unwritten bool // the end to read, or to write, is closed
 }
 
 // ReadEnd is the end of a pipe that is read.
-type ReadEnd struct{ *pipe }
+type ReadEnd struct{ *Pipe }
 
 // WriteEnd is the end of a pipe that is written.
-type WriteEnd struct{ *pipe }
+type WriteEnd struct{ *Pipe }
 
-// NewPipe makes an empty pipe and answers its ends.
-func NewPipe() (*ReadEnd, *WriteEnd) {
-	p := &pipe{}
+// NewPipe makes a pipe with these bytes in it, PipeSize at most, and answers its ends.
+func NewPipe(b ...byte) (*ReadEnd, *WriteEnd) {
+	p := &Pipe{}
+	p.add(b)
 	return &ReadEnd{p}, &WriteEnd{p}
 }
+
+// Bytes are those that are in it. They are to be read only.
+func (p *Pipe) Bytes() []byte { return p.bytes }
+
+// Bond is the pipe, for its ends are nothing one without the other.
+func (p *Pipe) Bond() any { return p }
 
 // Read answers what was written first; ErrAgain, if there is nothing yet.
 func (e *ReadEnd) Read(most int) ([]byte, error) {

@@ -3,7 +3,8 @@ package stream
 
 // Stream is what a descriptor is of: a *File, a *ReadEnd, a *WriteEnd, or the *Console.
 type Stream interface {
-	Close() // no descriptor is of it any more
+	Close()    // no descriptor is of it any more
+	Bond() any // what ties it to others: streams of the same one belong together; nil, if nothing does
 }
 
 // Reader is a stream that is read, at most so many bytes at a time.

@@ -21,6 +21,7 @@ type inode struct {
 type thing struct {
 	kind   api.FdKind
 	file   *inode
+	path   string // of a file of a frozen tree
 	offset int
 	bytes  *[]byte // of a pipe, both ends have the same ones
 	other  *thing  // the other end
@@ -38,11 +39,20 @@ type model struct {
 	names          map[string]*inode // by their paths, without the root
 	procs          []*being          // by their numbers
 	typed, written []byte
+	images         map[string]frozen // by their bytes
+	answers        map[api.Kind]map[api.Errno]int
+}
+
+func (m *model) count(kind api.Kind, err api.Errno) {
+	if m.answers[kind] == nil {
+		m.answers[kind] = map[api.Errno]int{}
+	}
+	m.answers[kind][err]++
 }
 
 // newModel has one process, as Boot made it.
 func newModel(l api.Limits, files []api.File, p api.Proc) *model {
-	m := &model{limits: l, names: map[string]*inode{}}
+	m := &model{limits: l, names: map[string]*inode{}, images: map[string]frozen{}}
 	for _, f := range files {
 		m.names[f.Path] = &inode{f.Dir, slices.Clone(f.Bytes)}
 	}
@@ -541,6 +551,8 @@ func (m *model) do(pid int, c api.Call) answer {
 		return p.peek(c.A, c.B)
 	case api.Poke:
 		return p.poke(c.A, c.D)
+	case api.Restore:
+		return m.restore(p, c.S)
 	}
 	return fails(api.ErrCall)
 }
@@ -672,8 +684,24 @@ func (m *model) play(t *testing.T, r *rand.Rand, k *tinyos.Kernel) {
 		return
 	case 7, 8, 9, 10, 11, 12:
 		c = anyProcessCall(r)
+	case 13, 14, 15:
+		pid, c = m.anyTreeCall(r, pid)
+	case 16:
+		m.sweep(t, r, k)
+		return
+	}
+	m.make(t, k, pid, c)
+}
+
+// make makes a call, of the kernel and of the model.
+func (m *model) make(t *testing.T, k *tinyos.Kernel, pid int, c api.Call) {
+	t.Helper()
+	if c.Kind == api.Checkpoint {
+		m.count(c.Kind, m.playCheckpoint(t, k, pid, c).err)
+		return
 	}
 	want := m.do(pid, c)
+	m.count(c.Kind, want.err)
 	if got := ask(t, k, pid, c); got != want {
 		t.Fatalf("process %d, call %s: %+.100v, want %+.100v", pid, short(c), got, want)
 	}
@@ -682,7 +710,8 @@ func (m *model) play(t *testing.T, r *rand.Rand, k *tinyos.Kernel) {
 // TestAnyScript holds scripts against the model, with limits that are reached.
 func TestAnyScript(t *testing.T) {
 	var reached [3]bool
-	for seed := range uint64(400) {
+	answers := map[api.Kind]map[api.Errno]int{}
+	for seed := range uint64(500) {
 		r := rand.New(rand.NewPCG(7, seed))
 		files := []api.File{dir("/d"), file("/a", "some text"), {Path: "/init", Bytes: counter(t)}, {Path: "/prog", Bytes: prog(t)}, {Path: "/wrong", Bytes: wrong()}}
 		size := 0
@@ -690,7 +719,10 @@ func TestAnyScript(t *testing.T) {
 			size += len(f.Bytes)
 		}
 		l := api.Limits{Procs: 1 + r.IntN(7), Frames: 3 + r.IntN(30), Objects: r.IntN(12), Inodes: 6 + r.IntN(8), Bytes: size + r.IntN(120)}
-		if r.IntN(3) == 0 {
+		switch r.IntN(4) {
+		case 0:
+			l.Bytes += r.IntN(8000)
+		case 1, 2:
 			l.Bytes = 100000
 		}
 		k, err := tinyos.Boot(l, files)
@@ -698,6 +730,7 @@ func TestAnyScript(t *testing.T) {
 			t.Fatalf("P6: Boot: %v", err)
 		}
 		m := newModel(l, files, k.Procs()[0])
+		m.answers = answers
 		for i := range 250 {
 			m.play(t, r, k)
 			got, want := tellAll(k), m.whole()
@@ -706,6 +739,16 @@ func TestAnyScript(t *testing.T) {
 			}
 			for i, full := range []bool{got.used.Procs == l.Procs, got.used.Frames == l.Frames, got.used.Objects == l.Objects} {
 				reached[i] = reached[i] || full
+			}
+		}
+	}
+	for kind, errs := range map[api.Kind][]api.Errno{
+		api.Checkpoint: {api.OK, api.ErrPid, api.ErrPath, api.ErrMissing, api.ErrDir, api.ErrExists, api.ErrShared, api.ErrFull},
+		api.Restore:    {api.OK, api.ErrPath, api.ErrMissing, api.ErrDir, api.ErrImage, api.ErrBusy, api.ErrMemory, api.ErrFull},
+	} {
+		for _, err := range errs {
+			if answers[kind][err] == 0 {
+				t.Errorf("call %d never answered %d", kind, err)
 			}
 		}
 	}
