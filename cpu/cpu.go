@@ -25,8 +25,8 @@ const (
 	badAddress
 )
 
-// Step does the instruction at PC. The answer is 0, or the status that a trap ends the process with: then PC and the registers are as they were.
-func (c *CPU) Step() (status int) {
+// Step does the instruction at PC. The status is 0, or what a trap ends the process with: then PC and the registers are as they were. They are so too where it asks for a call, which is not the CPU's to make.
+func (c *CPU) Step() (asks bool, status int) {
 	defer func() {
 		switch r := recover().(type) {
 		case nil:
@@ -38,8 +38,11 @@ func (c *CPU) Step() (status int) {
 	}()
 	i := c.fetch()
 	c.PC = works()[i.Op](c, i)
-	return 0
+	return i.Op == api.Ecall, 0
 }
+
+// GoOn goes on behind the instruction at PC.
+func (c *CPU) GoOn() { c.PC = c.next() }
 
 func (c *CPU) fetch() api.Instr {
 	var b [instrSize]byte

@@ -32,12 +32,13 @@ func works() [api.Restore + 1]work {
 	}
 }
 
+func isKind(kind api.Kind) bool { return isWithin(int(kind), int(api.Fork), int(api.Restore)) }
+
 func (k *Kernel) call(p *process, c api.Call) (api.Result, error) {
-	list := works()
-	if !isWithin(int(c.Kind), 0, len(list)-1) || list[c.Kind] == nil {
+	if !isKind(c.Kind) {
 		return api.Result{}, api.ErrCall
 	}
-	return list[c.Kind](k, p, c)
+	return works()[c.Kind](k, p, c)
 }
 
 // leastFree is the least number, from a first one on, at which there is nothing.

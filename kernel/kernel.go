@@ -90,7 +90,11 @@ func (k *Kernel) Step(pid int) error {
 	if err != nil {
 		return wrap(pid, err)
 	}
-	if status := p.Step(); status != 0 {
+	asks, status := p.Step()
+	switch {
+	case asks:
+		k.ecall(p)
+	case status != 0:
 		k.end(p, status)
 	}
 	return nil

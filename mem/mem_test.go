@@ -2,6 +2,7 @@ package mem
 
 import (
 	"bytes"
+	"math"
 	"testing"
 
 	"tinyos/api"
@@ -68,6 +69,23 @@ func TestBreak(t *testing.T) {
 		s := NewSpace(pages...)
 		if got := s.Break(); got != x.want {
 			t.Errorf("pages %d: the break is %d, want %d", x.numbers, got, x.want)
+		}
+	}
+}
+
+func TestMay(t *testing.T) {
+	s := NewSpace(api.Page{Number: 0, Perm: Read}, api.Page{Number: 1, Perm: Read | Write}, api.Page{Number: 255, Perm: Write})
+	for _, x := range []struct {
+		perm  api.Perm
+		addr  uint64
+		count int
+		want  bool
+	}{
+		{Read, 0, 512, true}, {Read, 0, 513, false}, {Write, 255, 2, false}, {Write, 256, 256, true}, {Execute, 0, 1, false}, {Write, 0xff00, 256, true}, {Write, 0xff00, 257, false}, {Write, 0xffff, math.MaxInt, false},
+		{Read, math.MaxUint64, 2, false}, {Read, 1 << 32, 1, false}, {Read, math.MaxUint64, 0, true}, {Write, 0, -1, true}, {Write, 0, math.MinInt, true},
+	} {
+		if got := s.May(x.perm, x.addr, x.count); got != x.want {
+			t.Errorf("May(%d, %#x, %d) = %v, want %v", x.perm, x.addr, x.count, got, x.want)
 		}
 	}
 }

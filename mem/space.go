@@ -60,7 +60,7 @@ func (s *Space) Add(number, count int) {
 
 // Get fills b with the bytes from addr on; false, if not all of them are in pages with which this may be done.
 func (s *Space) Get(b []byte, addr uint64, perm api.Perm) bool {
-	if !s.may(perm, addr, len(b)) {
+	if !s.May(perm, addr, len(b)) {
 		return false
 	}
 	for i := range b {
@@ -71,7 +71,7 @@ func (s *Space) Get(b []byte, addr uint64, perm api.Perm) bool {
 
 // Set writes b from addr on; false, with nothing written, if not all of its bytes come into pages that may be written.
 func (s *Space) Set(addr uint64, b []byte) bool {
-	if !s.may(Write, addr, len(b)) {
+	if !s.May(Write, addr, len(b)) {
 		return false
 	}
 	for i := range b {
@@ -80,8 +80,8 @@ func (s *Space) Set(addr uint64, b []byte) bool {
 	return true
 }
 
-// may looks at each byte from the lowest on, so it meets the end of the address space ahead of an address that wraps round.
-func (s *Space) may(perm api.Perm, addr uint64, count int) bool {
+// May tells whether so many bytes from addr on are all in pages with which this may be done. It looks at each one from the lowest on, so it meets the end of the address space ahead of an address that wraps round, and ends soon, however many there are.
+func (s *Space) May(perm api.Perm, addr uint64, count int) bool {
 	for i := range count {
 		at := addr + uint64(i)
 		if at >= SpaceEnd || s.pages[at/api.PageSize].perm&perm == 0 {

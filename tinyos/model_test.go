@@ -40,19 +40,34 @@ type model struct {
 	procs          []*being          // by their numbers
 	typed, written []byte
 	images         map[string]frozen // by their bytes
-	answers        map[api.Kind]map[api.Errno]int
+	calls, ecalls  counts            // of those that were made by Do, and by an Ecall
 }
 
-func (m *model) count(kind api.Kind, err api.Errno) {
-	if m.answers[kind] == nil {
-		m.answers[kind] = map[api.Errno]int{}
+// counts tells how often a call of a kind had an answer.
+type counts map[api.Kind]map[api.Errno]int
+
+func (c counts) add(kind api.Kind, err api.Errno) {
+	if c[kind] == nil {
+		c[kind] = map[api.Errno]int{}
 	}
-	m.answers[kind][err]++
+	c[kind][err]++
+}
+
+// check asks for each of these answers.
+func (c counts) check(t *testing.T, how string, want map[api.Kind][]api.Errno) {
+	t.Helper()
+	for kind, errs := range want {
+		for _, err := range errs {
+			if c[kind][err] == 0 {
+				t.Errorf("call %d by %s never answered %d", kind, how, err)
+			}
+		}
+	}
 }
 
 // newModel has one process, as Boot made it.
 func newModel(l api.Limits, files []api.File, p api.Proc) *model {
-	m := &model{limits: l, names: map[string]*inode{}, images: map[string]frozen{}}
+	m := &model{limits: l, names: map[string]*inode{}, images: map[string]frozen{}, calls: counts{}, ecalls: counts{}}
 	for _, f := range files {
 		m.names[f.Path] = &inode{f.Dir, slices.Clone(f.Bytes)}
 	}
@@ -496,15 +511,29 @@ func (m *model) ready(pid int) api.Errno {
 	return api.OK
 }
 
-func (m *model) step(pid int) api.Errno {
+// step has a process do an instruction that the kernel has done.
+func (m *model) step(t *testing.T, k *tinyos.Kernel, pid int) api.Errno {
+	t.Helper()
 	if e := m.ready(pid); e != api.OK {
 		return e
 	}
 	p := m.at(pid)
-	if status := follow(&p.Proc); status != 0 {
+	if i, _ := fetched(&p.Proc); i.Op == api.Ecall {
+		m.ecall(t, k, p)
+	} else if status := follow(&p.Proc); status != 0 {
 		m.end(p, status)
 	}
 	return api.OK
+}
+
+// stepBoth has a process do an instruction, of the kernel and of the model.
+func (m *model) stepBoth(t *testing.T, k *tinyos.Kernel, pid int) {
+	t.Helper()
+	err := k.Step(pid)
+	checkError(t, pid, err)
+	if want := m.step(t, k, pid); api.Tell(err) != want {
+		t.Fatalf("P18: Step(%d): %v, want error %d", pid, err, want)
+	}
 }
 
 func (m *model) do(pid int, c api.Call) answer {
@@ -590,7 +619,7 @@ func anyCallOf(r *rand.Rand) api.Call {
 	case c.Kind == api.Open:
 		c.A = r.IntN(4)
 	case c.Kind == api.Write && r.IntN(4) == 0:
-		c.D = bytes.Repeat(c.D, r.IntN(10))
+		c.D = bytes.Repeat(c.D, anyOf(r, 1, 2, 5, 20))
 	case c.Kind == api.Read && r.IntN(4) == 0:
 		c.B = anyOf(r, 0, 63, 64, 65, 4096)
 	case c.Kind == api.Seek && r.IntN(8) == 0:
@@ -614,7 +643,7 @@ func anyProcessCall(r *rand.Rand) api.Call {
 	c := api.Call{Kind: anyOf(r, kinds...), A: r.IntN(8), B: r.IntN(12), S: "/x", L: []string{"y"}, D: bytes.Repeat([]byte{byte('A' + r.IntN(26))}, r.IntN(12))}
 	switch c.Kind {
 	case api.Exec:
-		c.S = anyOf(r, "/init", "/init", "/init", "/prog", "/prog", "/prog", "/prog", "/wrong", "/a", "/b", "/d", "/", "/a/b", "/d/b", "x")
+		c.S = anyOf(r, "/init", "/init", "/init", "/prog", "/prog", "/caller", "/caller", "/caller", "/wrong", "/a", "/b", "/d", "/", "/a/b", "/d/b", "x")
 		c.L = slices.Repeat([]string{anyOf(r, "", "a", "some text", strings.Repeat("x", 30))}, r.IntN(9))
 		if r.IntN(8) == 0 {
 			c.L = append(c.L, anyOf(r, "\x00", strings.Repeat("x", 31)))
@@ -677,10 +706,7 @@ func (m *model) play(t *testing.T, r *rand.Rand, k *tinyos.Kernel) {
 		m.tick()
 		return
 	case 5, 6:
-		want := m.step(pid)
-		if err := k.Step(pid); api.Tell(err) != want {
-			t.Fatalf("Step(%d): %v, want error %d", pid, err, want)
-		}
+		m.stepBoth(t, k, pid)
 		return
 	case 7, 8, 9, 10, 11, 12:
 		c = anyProcessCall(r)
@@ -690,18 +716,22 @@ func (m *model) play(t *testing.T, r *rand.Rand, k *tinyos.Kernel) {
 		m.sweep(t, r, k)
 		return
 	}
-	m.make(t, k, pid, c)
+	if r.IntN(3) == 0 {
+		m.makeByEcall(t, r, k, pid, c)
+	} else {
+		m.make(t, k, pid, c)
+	}
 }
 
 // make makes a call, of the kernel and of the model.
 func (m *model) make(t *testing.T, k *tinyos.Kernel, pid int, c api.Call) {
 	t.Helper()
 	if c.Kind == api.Checkpoint {
-		m.count(c.Kind, m.playCheckpoint(t, k, pid, c).err)
+		m.calls.add(c.Kind, m.checkpointed(t, k, pid, c, ask(t, k, pid, c)).err)
 		return
 	}
 	want := m.do(pid, c)
-	m.count(c.Kind, want.err)
+	m.calls.add(c.Kind, want.err)
 	if got := ask(t, k, pid, c); got != want {
 		t.Fatalf("process %d, call %s: %+.100v, want %+.100v", pid, short(c), got, want)
 	}
@@ -710,15 +740,18 @@ func (m *model) make(t *testing.T, k *tinyos.Kernel, pid int, c api.Call) {
 // TestAnyScript holds scripts against the model, with limits that are reached.
 func TestAnyScript(t *testing.T) {
 	var reached [3]bool
-	answers := map[api.Kind]map[api.Errno]int{}
+	calls, ecalls := counts{}, counts{}
 	for seed := range uint64(500) {
 		r := rand.New(rand.NewPCG(7, seed))
-		files := []api.File{dir("/d"), file("/a", "some text"), {Path: "/init", Bytes: counter(t)}, {Path: "/prog", Bytes: prog(t)}, {Path: "/wrong", Bytes: wrong()}}
+		files := []api.File{dir("/d"), file("/a", "some text"), {Path: "/init", Bytes: counter(t)}, {Path: "/prog", Bytes: prog(t)}, {Path: "/wrong", Bytes: wrong()}, {Path: "/caller", Bytes: caller(t)}}
+		if seed%2 == 0 {
+			files[2].Bytes = caller(t)
+		}
 		size := 0
 		for _, f := range files {
 			size += len(f.Bytes)
 		}
-		l := api.Limits{Procs: 1 + r.IntN(7), Frames: 3 + r.IntN(30), Objects: r.IntN(12), Inodes: 6 + r.IntN(8), Bytes: size + r.IntN(120)}
+		l := api.Limits{Procs: 1 + r.IntN(7), Frames: 5 + r.IntN(30), Objects: r.IntN(12), Inodes: 7 + r.IntN(8), Bytes: size + r.IntN(120)}
 		switch r.IntN(4) {
 		case 0:
 			l.Bytes += r.IntN(8000)
@@ -730,7 +763,7 @@ func TestAnyScript(t *testing.T) {
 			t.Fatalf("P6: Boot: %v", err)
 		}
 		m := newModel(l, files, k.Procs()[0])
-		m.answers = answers
+		m.calls, m.ecalls = calls, ecalls
 		for i := range 250 {
 			m.play(t, r, k)
 			got, want := tellAll(k), m.whole()
@@ -742,16 +775,11 @@ func TestAnyScript(t *testing.T) {
 			}
 		}
 	}
-	for kind, errs := range map[api.Kind][]api.Errno{
+	calls.check(t, "Do", map[api.Kind][]api.Errno{
 		api.Checkpoint: {api.OK, api.ErrPid, api.ErrPath, api.ErrMissing, api.ErrDir, api.ErrExists, api.ErrShared, api.ErrFull},
 		api.Restore:    {api.OK, api.ErrPath, api.ErrMissing, api.ErrDir, api.ErrImage, api.ErrBusy, api.ErrMemory, api.ErrFull},
-	} {
-		for _, err := range errs {
-			if answers[kind][err] == 0 {
-				t.Errorf("call %d never answered %d", kind, err)
-			}
-		}
-	}
+	})
+	checkEcalls(t, ecalls)
 	if reached != [3]bool{true, true, true} {
 		t.Errorf("limits were not reached: %v", reached)
 	}

@@ -189,11 +189,10 @@ func (m *model) mayCheckpoint(pid int, c api.Call) api.Errno {
 	return api.OK
 }
 
-// playCheckpoint holds a Checkpoint against the model, which takes the image's bytes from the kernel.
-func (m *model) playCheckpoint(t *testing.T, k *tinyos.Kernel, pid int, c api.Call) answer {
+// checkpointed holds what a Checkpoint answered against the model, which takes the image's bytes from the kernel.
+func (m *model) checkpointed(t *testing.T, k *tinyos.Kernel, pid int, c api.Call, got answer) answer {
 	t.Helper()
 	want := fails(m.mayCheckpoint(pid, c))
-	got := ask(t, k, pid, c)
 	if want.err != api.OK {
 		if got != want {
 			t.Fatalf("process %d, call %s: %+v, want %+v", pid, short(c), got, want)

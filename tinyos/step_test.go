@@ -570,10 +570,10 @@ func TestStepKernelsApart(t *testing.T) {
 	}
 }
 
-// follow does to p what the document says that the instruction at PC does; the status of a trap, or 0.
-func follow(p *api.Proc) int {
+// fetched is the instruction at PC; or the status of a trap, or 0.
+func fetched(p *api.Proc) (api.Instr, int) {
 	if p.PC%4 != 0 || !allows(*p, p.PC, 4, 1) {
-		return 129
+		return api.Instr{}, 129
 	}
 	var b [4]byte
 	for k := range b {
@@ -581,7 +581,16 @@ func follow(p *api.Proc) int {
 	}
 	i, err := tinyos.Decode(b)
 	if err != nil {
-		return 130
+		return api.Instr{}, 130
+	}
+	return i, 0
+}
+
+// follow does to p what the document says that the instruction at PC does, but for an Ecall; the status of a trap, or 0.
+func follow(p *api.Proc) int {
+	i, status := fetched(p)
+	if status != 0 {
+		return status
 	}
 	switch a, b := p.Regs[i.A], p.Regs[i.B]; {
 	case i.Op <= api.Shr:
